@@ -1,0 +1,1 @@
+"""Leases under clocks that drift, and never two that hold."""
