@@ -1,4 +1,4 @@
-"""Holds the package's files to those rules of LANGUAGE.md that their text alone can show."""
+"""Holds the package to a part of LANGUAGE.md: signs, sizes, words, names, imports, classes, kinds of statement."""
 
 import ast
 import builtins
